@@ -1,0 +1,1 @@
+"""Nearturns: webs led to one another by turning ties among neighbours."""
