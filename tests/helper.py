@@ -119,18 +119,45 @@ def plain_rank(web, side):
     )
 
 
-def plain_alike(web):
-    """The set of all webs to which turns lead."""
+def plain_reach(web, steps):
+    """The set of all webs to which steps lead; steps tells of a web those that are one step away."""
     found = {web}
     waiting = [web]
     while waiting:
-        known = waiting.pop()
-        for place in range(web[0]):
-            fresh = plain_turned(known, place)
-            if fresh not in found:
-                found.add(fresh)
-                waiting.append(fresh)
+        for fresh in set(steps(waiting.pop())) - found:
+            found.add(fresh)
+            waiting.append(fresh)
     return found
+
+
+def plain_alike(web):
+    """The set of all webs to which turns lead."""
+    return plain_reach(web, lambda known: [plain_turned(known, place) for place in range(web[0])])
+
+
+def plain_pivoted(web, one, other):
+    """By its three turns."""
+    return plain_along(web, (one, other, one))
+
+
+def plain_pivots(web):
+    """The set of all webs to which pivots lead."""
+    return plain_reach(web, lambda known: [plain_pivoted(known, low, high) for low, high in known[1]])
+
+
+def plain_named(web, order):
+    """Place k of what comes of it is the place order[k] of the web."""
+    return (web[0], tuple((low, high) for low, high in pairs(web[0]) if tied(web, order[low], order[high])))
+
+
+def plain_renamed(web):
+    """The set of all webs that the web is, named anew."""
+    return {plain_named(web, order) for order in itertools.permutations(range(web[0]))}
+
+
+def plain_wide(web):
+    """The set of all webs that are alike with the web named anew, by whichever order."""
+    return set().union(*map(plain_alike, plain_renamed(web)))
 
 
 def turns_to(web):

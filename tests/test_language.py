@@ -1,4 +1,4 @@
-"""Rules of the language that can be read off the files: L1, L2, L8, L10, L12, L14, L16, L17 and L20."""
+"""Rules of the language that can be read off the files: L1, L2, L8, L10, L12, L14 to L17 and L20."""
 
 import ast
 import builtins
@@ -58,6 +58,16 @@ class Language(unittest.TestCase):
                 if hasattr(builtins, part.id):
                     self.assertIn(part.id, ALLOWED, path)
                     self.assertIsInstance(part.ctx, ast.Load, path)
+
+    def test_no_parameter_or_variable_has_the_name_of_an_import_a_class_or_a_builtin(self):
+        for path in FILES:
+            taken = [name.asname or name.name for part in parts(path, ast.ImportFrom) for name in part.names]
+            taken += [part.name for part in parts(path, ast.ClassDef)]
+            names = [part.arg for part in parts(path, ast.arg)]
+            names += [part.id for part in parts(path, ast.Name) if isinstance(part.ctx, ast.Store)]
+            for name in names:
+                self.assertNotIn(name, taken, path)
+                self.assertFalse(hasattr(builtins, name), (path, name))
 
     def test_names_have_no_underscore_ahead(self):
         for path in FILES:
