@@ -160,6 +160,36 @@ def plain_wide(web):
     return set().union(*map(plain_alike, plain_renamed(web)))
 
 
+def plain_without(web, gone):
+    """The web of all other places, each by how many of them are below it."""
+    stay = [place for place in range(web[0]) if place != gone]
+    ties = [pair for pair in pairs(len(stay)) if tied(web, stay[pair[0]], stay[pair[1]])]
+    return (len(stay), tuple(ties))
+
+
+def plain_steps_under(web):
+    """The webs to which one turn, or one place left out, leads."""
+    turns = [plain_turned(web, place) for place in range(web[0])]
+    return turns + [plain_without(web, place) for place in range(web[0]) if web[0] > 1]
+
+
+def plain_under(web):
+    """The set of all webs that lie under the web, itself too: turns and places left out in whatever order."""
+    return plain_reach(web, plain_steps_under)
+
+
+def plain_goes(web, left, place, other):
+    """Whether the place has, but for the other, no near place among those left, or the same as the other but for it."""
+    around = (set(plain_near(web, place)) & set(left)) - {other}
+    theirs = (set(plain_near(web, other)) & set(left)) - {place}
+    return not around or around == theirs
+
+
+def plain_loose(web, left):
+    """The places that can be peeled off those that are left."""
+    return [place for place in left if any(plain_goes(web, left, place, other) for other in left if other != place)]
+
+
 def turns_to(web):
     """How few turns lead from each alike web to this one."""
     turns = {web: 0}

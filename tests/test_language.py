@@ -1,4 +1,4 @@
-"""Rules of the language that can be read off the files: L1, L2, L8, L10, L12, L14 to L17 and L20."""
+"""Rules of the language that can be read off the files: L1 to L3, L6, L8, L10, L12, L14 to L17, L20 and L25."""
 
 import ast
 import builtins
@@ -17,6 +17,11 @@ ALLOWED = (
 BARRED = (
     "type typing typing_extensions enum Enum IntEnum StrEnum Flag IntFlag Generic Protocol ABC ABCMeta namedtuple "
     "NamedTuple TypedDict TYPE_CHECKING abstractmethod"
+).split()
+METHODS = (
+    "append clear copy count endswith extend find get index insert isalnum isalpha isdigit islower isspace isupper "
+    "items join keys ljust lower lstrip partition pop remove replace reverse rfind rjust rpartition rsplit rstrip "
+    "setdefault split splitlines startswith strip update upper values zfill bit_length"
 ).split()
 
 
@@ -51,6 +56,57 @@ class Language(unittest.TestCase):
                 self.assertEqual(part.level, 0, path)
                 self.assertRegex(part.module, r"\A(nearturns\.[a-z]+|__future__)\Z")
                 self.assertNotIn("*", [name.name for name in part.names])
+
+    def test_imports_name_the_file_that_defines_the_name(self):
+        for path in FILES:
+            for part in parts(path, ast.ImportFrom):
+                tree = ast.parse((PACKAGE / (part.module.split(".")[1] + ".py")).read_text())
+                defined = [known.name for known in tree.body if isinstance(known, (ast.FunctionDef, ast.ClassDef))]
+                for known in tree.body:
+                    if isinstance(known, ast.Assign):
+                        defined += [target.id for target in known.targets]
+                for name in part.names:
+                    self.assertIn(name.name, defined, path)
+
+    def test_no_two_files_import_from_each_other(self):
+        ahead = {path.stem: {part.module.split(".")[1] for part in parts(path, ast.ImportFrom)} for path in FILES}
+        while ahead:
+            free = [name for name in ahead if not ahead[name] & set(ahead)]
+            self.assertTrue(free, ahead)
+            for name in free:
+                del ahead[name]
+
+    def test_module_level(self):
+        for path in FILES:
+            names = []
+            for at, part in enumerate(ast.parse(path.read_text()).body):
+                if isinstance(part, ast.Expr):
+                    self.assertEqual((at, type(part.value)), (0, ast.Constant), path)
+                elif isinstance(part, ast.Assign):
+                    names += [target.id for target in part.targets]
+                    self.assertFalse([deep for deep in ast.walk(part) if isinstance(deep, (ast.Call, ast.Lambda))], path)
+                elif isinstance(part, (ast.FunctionDef, ast.ClassDef)):
+                    names.append(part.name)
+                else:
+                    self.assertIsInstance(part, ast.ImportFrom, path)
+                    names += [name.asname or name.name for name in part.names]
+            self.assertEqual(len(set(names)), len(names), path)
+
+    def test_statements_that_are_not_allowed(self):
+        barred = (ast.Global, ast.AsyncFunctionDef, ast.AsyncFor, ast.AsyncWith, ast.Await)
+        for path in FILES:
+            self.assertEqual(parts(path, barred), [], path)
+            self.assertEqual([part for part in parts(path, ast.FunctionDef) if part.decorator_list], [], path)
+
+    def test_methods_that_are_called(self):
+        own = [
+            part.name for path in FILES for known in parts(path, ast.ClassDef) for part in known.body
+            if isinstance(part, ast.FunctionDef)
+        ]
+        for path in FILES:
+            for part in parts(path, ast.Call):
+                if isinstance(part.func, ast.Attribute):
+                    self.assertIn(part.func.attr, METHODS + own, path)
 
     def test_builtins(self):
         for path in FILES:
